@@ -1,0 +1,1 @@
+"""A pizza shared by turns: see pizzaturns.slices.answers."""
