@@ -2,6 +2,7 @@
 
 MOST_PIECES = 12
 LARGEST_SIZE = 1000
+MOST_PIECES_TO_CUT = 7
 
 CALL_PIZZA = 0
 CALL_TAKE = 1
@@ -9,11 +10,18 @@ CALL_BACK = 2
 CALL_GAINS = 3
 CALL_MAY = 4
 CALL_WORTH = 5
+CALL_GOOD = 6
+CALL_PLAY = 7
+CALL_WHICH = 8
+CALL_GAIN = 9
+CALL_CUT = 10
 
 NOT_REFUSED = 0
 DOES_NOT_FIT = -1
 NOT_BESIDE_GAP = -2
+NO_SUCH_PLAY = -3
 ALREADY_TAKEN = -4
+TOO_MANY_TO_CUT = -7
 NONE_TAKEN = -9
 
 
@@ -35,6 +43,64 @@ def row_worths(sizes, length):
         # One gets all but what the other one gets of the row behind, so one leaves the row that is worth less.
         worths = [sums[first] - min(worths[first], worths[(first + 1) % many]) for first in range(many)]
     return worths
+
+
+def row_plays(sizes, length):
+    """Give, for each piece, how many good plays the row of so many pieces that begins with it has, going round."""
+    many = len(sizes)
+    # A row of one piece has one play, though that piece is at both its ends.
+    plays = [1 for size in sizes]
+    for shorter in range(1, length):
+        worths = row_worths(sizes, shorter)
+        longer_plays = [0 for size in sizes]
+        for first in range(many):
+            second = (first + 1) % many
+            # An end is good if the row behind it is worth no more to the other one than that behind the other end.
+            if worths[second] <= worths[first]:
+                longer_plays[first] = longer_plays[first] + plays[second]
+            if worths[first] <= worths[second]:
+                longer_plays[first] = longer_plays[first] + plays[first]
+        plays = longer_plays
+    return plays
+
+
+def whole_worth(sizes):
+    """Give what the one who begins gets of a whole pizza, if both do well."""
+    # A whole pizza has no ends: any piece may go, and a row of all the others is left behind it.
+    return sum(sizes) - min(row_worths(sizes, len(sizes) - 1))
+
+
+def next_row(row):
+    """Give the row of the same sizes that comes next in order; an empty one behind the last."""
+    place = len(row) - 2
+    while place >= 0 and row[place] >= row[place + 1]:
+        place = place - 1
+    if place < 0:
+        return []
+    larger = len(row) - 1
+    while row[larger] <= row[place]:
+        larger = larger - 1
+    following = list(row)
+    following[place] = row[larger]
+    following[larger] = row[place]
+    # The sizes behind this place still fall, as they did; turned round they are their first row.
+    return following[:place + 1] + list(reversed(following[place + 1:]))
+
+
+def meanest_row(sizes):
+    """Give the first row of these sizes, in order, of which the one who begins gets the least."""
+    lowest = sorted(sizes)
+    found = lowest
+    least = whole_worth(lowest)
+    row = next_row(lowest)
+    # A pizza that is turned is worth the same, so the first of such rows begins with the smallest size.
+    while len(row) > 0 and row[0] == lowest[0]:
+        own = whole_worth(row)
+        if own < least:
+            least = own
+            found = row
+        row = next_row(row)
+    return found
 
 
 class Pizza:
@@ -98,9 +164,13 @@ class Pizza:
         """Answer the call gains."""
         return [self.got(0), self.got(1), self.at_turn(), self.count_left()]
 
+    def free_pieces(self):
+        """Give the pieces that may be taken, rising."""
+        return [piece for piece in range(len(self.sizes)) if self.refusal(piece) == NOT_REFUSED]
+
     def may(self):
         """Answer the call may."""
-        pieces = [piece for piece in range(len(self.sizes)) if self.refusal(piece) == NOT_REFUSED]
+        pieces = self.free_pieces()
         return [len(pieces)] + pieces
 
     def first_left(self):
@@ -111,25 +181,94 @@ class Pizza:
                 return piece
         return 0
 
+    def left(self):
+        """Give how much is left, all together."""
+        return sum(self.sizes) - self.got(0) - self.got(1)
+
     def worth_to_one_at_turn(self):
         """Give what the one at turn gets of all that is left, if both do well."""
         if len(self.taken) == 0:
-            # A whole pizza has no ends: any piece may go, and a row of all the others is left behind it.
-            return sum(self.sizes) - min(row_worths(self.sizes, len(self.sizes) - 1))
+            return whole_worth(self.sizes)
         return row_worths(self.sizes, self.count_left())[self.first_left()]
 
     def worth(self):
         """Answer the call worth."""
-        left = sum(self.sizes) - self.got(0) - self.got(1)
         own = self.worth_to_one_at_turn()
-        return [own, left - own]
+        return [own, self.left() - own]
+
+    def without(self, piece):
+        """Give this pizza as another one, from which this piece has been taken too."""
+        other = Pizza()
+        other.sizes = list(self.sizes)
+        other.taken = self.taken + [piece]
+        return other
+
+    def gain_by(self, piece):
+        """Give what the one at turn gets of what is left by taking this piece, which may be taken."""
+        return self.left() - self.without(piece).worth_to_one_at_turn()
+
+    def gain(self, piece):
+        """Answer the call gain."""
+        refused = self.refusal(piece)
+        if refused != NOT_REFUSED:
+            return [refused]
+        return [self.gain_by(piece)]
+
+    def good_pieces(self):
+        """Give the good pieces, rising."""
+        most = self.worth_to_one_at_turn()
+        return [piece for piece in self.free_pieces() if self.gain_by(piece) == most]
+
+    def good(self):
+        """Answer the call good."""
+        pieces = self.good_pieces()
+        return [len(pieces)] + pieces
+
+    def count_plays(self):
+        """Give how many good plays there are; one, without a piece, if nothing is left."""
+        if len(self.taken) == 0:
+            return sum([self.without(piece).count_plays() for piece in self.good_pieces()])
+        return row_plays(self.sizes, self.count_left())[self.first_left()]
+
+    def play_at(self, place):
+        """Give the good play at this place, from 0, in order; there must be one."""
+        pieces = []
+        rest = self
+        while rest.count_left() > 0:
+            for piece in rest.good_pieces():
+                behind = rest.without(piece)
+                plays = behind.count_plays()
+                if place < plays:
+                    break
+                # All plays that go on with this piece come before the one that is looked for.
+                place = place - plays
+            pieces.append(piece)
+            rest = behind
+        return pieces
+
+    def play(self):
+        """Answer the call play."""
+        return [self.count_plays()] + self.play_at(0)
+
+    def which(self, place):
+        """Answer the call which."""
+        if place >= self.count_plays():
+            return [NO_SUCH_PLAY]
+        return [0] + self.play_at(place)
+
+    def cut(self):
+        """Answer the call cut."""
+        if len(self.sizes) > MOST_PIECES_TO_CUT:
+            return [TOO_MANY_TO_CUT]
+        row = meanest_row(self.sizes)
+        return [whole_worth(row)] + row
 
 
 def call_length(calls, place):
     """Give how many numbers the call at this place has, its own number among them."""
     if calls[place] == CALL_PIZZA:
         return 2 + calls[place + 1]
-    if calls[place] == CALL_TAKE:
+    if calls[place] in (CALL_TAKE, CALL_WHICH, CALL_GAIN):
         return 2
     return 1
 
@@ -149,6 +288,16 @@ def answer_call(pizza, call):
         return pizza.may()
     if number == CALL_WORTH:
         return pizza.worth()
+    if number == CALL_GOOD:
+        return pizza.good()
+    if number == CALL_PLAY:
+        return pizza.play()
+    if number == CALL_WHICH:
+        return pizza.which(call[1])
+    if number == CALL_GAIN:
+        return pizza.gain(call[1])
+    if number == CALL_CUT:
+        return pizza.cut()
     raise KeyError(number)
 
 

@@ -3,14 +3,19 @@ import io
 import unittest
 
 from pizzaturns.slices import answers
-from tests.helper import parts, plain_may, plain_worth
+from tests.helper import TOP, parts, plain_cut, plain_gain, plain_good, plain_may, plain_plays, plain_worth
 
-TOP = 4294967295
-# pizza 5 1 2, may, take 3, take 1, gains, worth, pizza without a piece, back, back, take 2, take 2, gains
-MIXED = [0, 3, 5, 1, 2] + [4] + [1, 3] + [1, 1] + [3] + [5] + [0, 0] + [2] + [2] + [1, 2] + [1, 2] + [3]
+# pizza 5 1 2, may, take 3, take 1, gains, worth, pizza without a piece, back, back, take 2, take 2, gains,
+# good, play, which 0, which 1, gain 0, gain 2, gain 3, cut
+MIXED = (
+    [0, 3, 5, 1, 2] + [4] + [1, 3] + [1, 1] + [3] + [5] + [0, 0] + [2] + [2] + [1, 2] + [1, 2] + [3]
+    + [6] + [7] + [8, 0] + [8, 1] + [9, 0] + [9, 2] + [9, 3] + [10])
 MIXED_ANSWERS = (
     [1, 8] + [4, 3, 0, 1, 2] + [1, -1] + [2, 0, 1] + [4, 1, 0, 1, 2] + [2, 5, 2] + [1, -1] + [1, 1] + [1, -9]
-    + [2, 0, 2] + [1, -4] + [4, 2, 0, 1, 2])
+    + [2, 0, 2] + [1, -4] + [4, 2, 0, 1, 2]
+    + [2, 1, 0] + [3, 1, 0, 1] + [3, 0, 0, 1] + [1, -3] + [1, 5] + [1, -4] + [1, -1] + [4, 6, 1, 2, 5])
+NAMES = ("pizza", "take", "back", "gains", "may", "worth", "good", "play", "which", "gain", "cut")
+SEARCHING = ("play", "which", "cut")
 
 
 class Model:
@@ -27,13 +32,18 @@ class Model:
         self.way = []
         return [sum(sizes)]
 
-    def take(self, piece):
+    def refusals(self, piece):
         if piece not in range(len(self.sizes)):
             return [-1]
         if piece in self.way:
             return [-4]
         if piece not in plain_may(len(self.sizes), self.way):
             return [-2]
+        return []
+
+    def take(self, piece):
+        if self.refusals(piece):
+            return self.refusals(piece)
         self.way = self.way + [piece]
         return [1 - len(self.way) % 2, sum(self.sizes[other] for other in self.way[::-1][::2])]
 
@@ -57,6 +67,24 @@ class Model:
     def worth(self):
         return list(plain_worth(self.sizes, self.way))
 
+    def good(self):
+        pieces = plain_good(self.sizes, self.way)
+        return [len(pieces), *pieces]
+
+    def play(self):
+        plays = plain_plays(self.sizes, self.way)
+        return [len(plays), *plays[0]]
+
+    def which(self, place):
+        plays = plain_plays(self.sizes, self.way)
+        return [0, *plays[place]] if place < len(plays) else [-3]
+
+    def gain(self, piece):
+        return self.refusals(piece) or [plain_gain(self.sizes, self.way, piece)]
+
+    def cut(self):
+        return plain_cut(tuple(sorted(self.sizes))) if len(self.sizes) < 8 else [-7]
+
 
 class Mixer:
     """Rows of calls, mixed but always the same for the same start."""
@@ -72,19 +100,39 @@ class Mixer:
         many = self.below(8)
         if self.below(6) == 0:
             many = self.below(41)
-        sizes = [self.below(1001) for place in range(many)]
+        # Few different sizes make many good plays.
+        end = (2, 3, 1001)[self.below(3)]
+        sizes = [self.below(end) for place in range(many)]
         if self.below(6) == 0 and many > 0:
             sizes[self.below(many)] = (1000, 1001, TOP)[self.below(3)]
         return sizes
 
     def call(self):
-        """Give a call's name and what stands behind its number: a piece, sizes, or None."""
-        drawn = self.below(16)
+        """Give a call's name and the numbers that stand behind its own one."""
+        drawn = self.below(20)
         if drawn == 0:
-            return "pizza", self.sizes()
+            sizes = self.sizes()
+            return "pizza", [len(sizes), *sizes]
         if drawn < 9:
-            return "take", TOP - self.below(12) if self.below(20) == 0 else self.below(8)
-        return ("back", "back", "gains", "gains", "may", "worth", "worth")[drawn - 9], None
+            return ("gain" if drawn < 3 else "take"), [self.piece()]
+        if drawn == 9:
+            return "which", [TOP - self.below(12) if self.below(8) == 0 else self.below(12)]
+        return ("back", "back", "gains", "gains", "may", "worth", "worth", "good", "play", "cut")[drawn - 10], []
+
+    def piece(self):
+        return TOP - self.below(12) if self.below(20) == 0 else self.below(8)
+
+    def line(self):
+        """Give forty calls, no more than four of them of those that search through plays and rows."""
+        calls = [("pizza", [6, 5, 4, 3, 2, 1, 0])]
+        searching = 0
+        while len(calls) < 40:
+            name, given = self.call()
+            if name in SEARCHING:
+                searching += 1
+            if name not in SEARCHING or searching <= 4:
+                calls.append((name, given))
+        return calls
 
 
 class Answers(unittest.TestCase):
@@ -97,6 +145,9 @@ class Answers(unittest.TestCase):
         self.assertEqual(answers([1, 1]), [1, -1])
         self.assertEqual(answers([1, 0, 1, 0]), [2, 0, 1, 1, -4])
         self.assertEqual(answers([0, 4, 1, 1, 1, 1, 1, 0, 1, 2]), [1, 4, 2, 0, 1, 1, -2])
+        self.assertEqual(answers([0, 4, 1, 1, 1, 1, 1, 0, 9, 2, 9, 0, 9, 4]), [1, 4, 2, 0, 1, 1, -2, 1, -4, 1, -1])
+        self.assertEqual(answers([8, 1, 8, TOP]), [1, -3, 1, -3])
+        self.assertEqual(answers([0, 8, 1, 1, 1, 1, 1, 1, 1, 1, 10]), [1, 8, 1, -7])
 
     def test_each_call_alone(self):
         self.assertEqual(answers([0, 2, 7, 8]), [1, 15])
@@ -104,6 +155,20 @@ class Answers(unittest.TestCase):
         self.assertEqual(answers([3]), [4, 0, 0, 0, 1])
         self.assertEqual(answers([4]), [2, 1, 0])
         self.assertEqual(answers([5]), [2, 1, 0])
+        self.assertEqual(answers([6]), [2, 1, 0])
+        self.assertEqual(answers([7]), [2, 1, 0])
+        self.assertEqual(answers([8, 0]), [2, 0, 0])
+        self.assertEqual(answers([9, 0]), [1, 1])
+        self.assertEqual(answers([10]), [2, 1, 1])
+
+    def test_when_nothing_is_left(self):
+        self.assertEqual(
+            answers([1, 0, 6, 7, 8, 0, 8, 1, 9, 0, 10, 5]),
+            [2, 0, 1] + [1, 0] + [1, 1] + [1, 0] + [1, -3] + [1, -4] + [2, 1, 1] + [2, 0, 0])
+
+    def test_numbers_that_look_like_calls(self):
+        self.assertEqual(answers([8, 8, 9, 9, 9, 0, 8, 0, 3]), [1, -3, 1, -1, 1, 1, 2, 0, 0, 4, 0, 0, 0, 1])
+        self.assertEqual(answers([0, 5, 6, 7, 8, 9, 10, 9, 4, 3]), [1, 40, 1, 24, 4, 0, 0, 0, 5])
 
     def test_sizes_that_look_like_calls(self):
         self.assertEqual(answers([0, 6, 0, 1, 2, 3, 4, 5, 3]), [1, 15, 4, 0, 0, 0, 6])
@@ -136,6 +201,30 @@ class Answers(unittest.TestCase):
     def test_forty_calls_of_forty_sizes(self):
         self.assertEqual(answers(([0, 40] + [TOP] * 40) * 40), [1, -1] * 40)
 
+    def test_forty_calls_with_twelve_pieces(self):
+        sizes = [7] * 12
+        calls = [0, 12, *sizes] + [7] + [8, 12287] + [8, 12288] + [10] + [6] * 18 + [9, 11] * 17
+        asked = [
+            [84], [12288, *range(12)], [0, *range(11, -1, -1)], [-3], [-7], *[[12, *range(12)]] * 18, *[[42]] * 17]
+        self.assertEqual(parts(answers(calls)), asked)
+        self.assertEqual(len(asked), 40)
+
+    def test_forty_calls_with_seven_pieces(self):
+        sizes = [3, 1, 4, 0, 5, 9, 1000]
+        calls = [0, 7, *sizes] + [10] * 2 + [7] + [8, 0] + [6] * 18 + [9, 6] * 17
+        cut = plain_cut(tuple(sizes))
+        plays = plain_plays(sizes, [])
+        good = plain_good(sizes, [])
+        asked = [
+            [1022], cut, cut, [len(plays), *plays[0]], [0, *plays[0]], *[[len(good), *good]] * 18,
+            *[[plain_gain(sizes, [], 6)]] * 17]
+        self.assertEqual(parts(answers(calls)), asked)
+        self.assertEqual(len(asked), 40)
+
+    def test_any_other_call_number(self):
+        for number in (11, 12, TOP):
+            self.assertRaises(KeyError, answers, [number])
+
     def test_whole_numbers_alone(self):
         answered = answers(list(MIXED))
         self.assertIs(type(answered), list)
@@ -148,21 +237,19 @@ class Answers(unittest.TestCase):
         self.assertEqual(out.getvalue(), "")
 
     def test_mixed_rows_against_the_words(self):
-        order = ("pizza", "take", "back", "gains", "may", "worth")
+        met = {name: 0 for name in NAMES}
         for start in range(300):
-            mixer = Mixer(start)
             model = Model()
-            calls = [0, 6, 5, 4, 3, 2, 1, 0]
-            asked = [model.pizza([5, 4, 3, 2, 1, 0])]
-            for turn in range(39):
-                name, given = mixer.call()
-                calls.append(order.index(name))
-                if name == "pizza":
-                    calls.extend([len(given), *given])
-                if name == "take":
-                    calls.append(given)
-                asked.append(getattr(model, name)() if given is None else getattr(model, name)(given))
-            self.assertEqual(parts(answers(calls)), asked, calls)
+            calls = []
+            asked = []
+            for name, given in Mixer(start).line():
+                calls.extend([NAMES.index(name), *given])
+                asked.append(model.pizza(given[1:]) if name == "pizza" else getattr(model, name)(*given))
+                met[name] += 1
+            handed_in = list(calls)
+            self.assertEqual(parts(answers(calls)), asked, handed_in)
+            self.assertEqual(calls, handed_in)
+        self.assertGreater(min(met.values()), 200, met)
 
 
 if __name__ == "__main__":

@@ -1,8 +1,6 @@
 import unittest
 
-from tests.helper import BACK, GAINS, MAY, ask, pizza, take
-
-TOP = 4294967295
+from tests.helper import BACK, GAINS, MAY, TOP, ask, pizza, take
 
 
 class PizzaAnswers(unittest.TestCase):

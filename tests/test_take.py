@@ -1,8 +1,6 @@
 import unittest
 
-from tests.helper import BACK, GAINS, MAY, ask, pizza, plain_may, take, ways_to_all_rests
-
-TOP = 4294967295
+from tests.helper import BACK, GAINS, MAY, TOP, ask, pizza, plain_may, take, ways_to_all_rests
 
 
 class Take(unittest.TestCase):
